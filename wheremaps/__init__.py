@@ -1,0 +1,1 @@
+"""whence: where each place of a made text came from."""
