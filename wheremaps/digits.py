@@ -61,7 +61,7 @@ def read_numbers(written):
             weight = weight * 32
             continue
         # A last group of 0 could have been left out, and 1 would be 0 below 0, which is written as 0.
-        if digit == 0 and weight > 1 or value == 1:
+        if (digit == 0 and weight > 1) or value == 1:
             return None
         numbers.append(signed(value))
         value = 0
