@@ -43,6 +43,26 @@ def get(k, i):
     return [4, k, i]
 
 
+def at(k, line, col):
+    return [5, k, line, col]
+
+
+def back(k, src, line, col):
+    return [6, k, src, line, col]
+
+
+def join(k, j, src, base, names):
+    return [7, k, j, src, base, names]
+
+
+def append(k, j, line, col, base, names):
+    return [8, k, j, line, col, base, names]
+
+
+def clear(k):
+    return [9, k]
+
+
 def split_answers(told):
     rows = []
     place = 0
@@ -73,6 +93,18 @@ def ask(*calls):
 def text_answer(text):
     """How write answers a text."""
     return [len(text), *text]
+
+
+def holding(k, segments):
+    """One call that makes map k, which is empty, these segments, which are a map."""
+    # One that stands far down has a long text: two such wouldn't go into one list.
+    return add(k, *segments[0]) if len(segments) == 1 else read(k, plain_text(segments))
+
+
+def ask_and_show(*calls):
+    """The answers to the calls, and the four maps as they are behind them, by their texts."""
+    told = ask(*calls, *[write(k) for k in range(4)])
+    return told[:-4], [map_of_right_text(bytes(row[1:])) for row in told[-4:]]
 
 
 def line_of_segments(many):
@@ -198,11 +230,75 @@ def plain_read(maps, k, text):
     return [len(segments)]
 
 
+def plain_forward(segments, line, col):
+    fit = [segment for segment in segments if segment[0] == line and not segment[1] > col]
+    return fit[-1] if fit else None
+
+
+def plain_back(segments, src, line, col):
+    fit = [segment for segment in segments if segment[2:4] == (src, line) and not segment[4] > col]
+    greatest = max((segment[4] for segment in fit), default=None)
+    return next((segment for segment in fit if segment[4] == greatest), None)
+
+
+def plain_through(segment, b, src, base, names):
+    """The segment through b, by the document's words; the segment may be None, for a look that finds none."""
+    if segment is None or segment[2:3] != (src,):
+        return segment
+    found = plain_forward(b, segment[3], segment[4]) or ()
+    origin = [found[2] + base, *found[3:5]] if found[2:] else []
+    name = segment[5:] or [number + names for number in found[5:]]
+    return (*segment[:2], *origin, *(name if origin else []))
+
+
+def plain_moved(segment, line, col, base, names):
+    """The segment with what append adds; the segment may be None, for a look that finds none."""
+    if segment is None:
+        return None
+    added = (line, col if segment[0] == 0 else 0, base, 0, 0, names)
+    return tuple(number + more for number, more in zip(segment, added))
+
+
+def plain_found(segment):
+    return [0] if segment is None else [1, *segment]
+
+
+def plain_join(maps, k, j, src, base, names):
+    through = [plain_through(segment, maps[j], src, base, names) for segment in maps[k]]
+    if not all(is_plain_segment(segment) for segment in through):
+        return [-6]
+    maps[k] = through
+    return [0]
+
+
+def plain_append(maps, k, j, line, col, base, names):
+    moved = [plain_moved(segment, line, col, base, names) for segment in maps[j]]
+    if any(segment[:2] <= last[:2] for last in maps[k][-1:] for segment in moved):
+        return [-2]
+    if len(maps[k]) + len(moved) > 200:
+        return [-4]
+    if not all(is_plain_segment(segment) for segment in moved):
+        return [-6]
+    maps[k] = maps[k] + moved
+    return [0]
+
+
 def plain_answer(maps, call):
     """What the document asks as the answer to one call."""
     number, k, rest = call[0], call[1], call[2:]
     if k > 3:
         return [-1]
+    if number in (7, 8):
+        if rest[0] > 3:
+            return [-1]
+        return plain_join(maps, k, *rest) if number == 7 else plain_append(maps, k, *rest)
+    if number == 5:
+        return plain_found(plain_forward(maps[k], *rest))
+    if number == 6:
+        return plain_found(plain_back(maps[k], *rest))
+    if number == 9:
+        maps[k] = []
+        return [0]
     if number == 0:
         return plain_add(maps, k, rest[1:])
     if number == 1:
@@ -211,7 +307,7 @@ def plain_answer(maps, call):
         return text_answer(plain_text(maps[k]))
     if number == 3:
         return [len(maps[k])]
-    return [1, *maps[k][rest[0]]] if rest[0] < len(maps[k]) else [0]
+    return plain_found(maps[k][rest[0]] if rest[0] < len(maps[k]) else None)
 
 
 def plain_ask(*calls):
@@ -237,4 +333,14 @@ def chance_map(chance, most):
     for place in sorted(places):
         rest = [chance_number(chance) for _ in range(chance.choice([0, 3, 4]))]
         segments.append((*place, *rest))
+    return segments
+
+
+def near_map(chance, most):
+    """A map of at most so many segments with small numbers, so that looks find and segments meet."""
+    places = {(chance.randrange(3), chance.randrange(8)) for _ in range(chance.randrange(most + 1))}
+    segments = []
+    for place in sorted(places):
+        origin = (chance.randrange(2), chance.randrange(3), chance.randrange(8), chance.randrange(4))
+        segments.append((*place, *origin[:chance.choice([0, 3, 3, 4])]))
     return segments

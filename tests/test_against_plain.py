@@ -6,8 +6,10 @@ The source of chance begins at a told number, so each run tests the same.
 import random
 import unittest
 
-from helper import (DIGITS, HUGE, LAST_LINE, MOST, add, ask, chance_map, chance_number, count, get, is_plain_map,
-                    map_of_right_text, plain_ask, plain_text, read, right_bytes, text_answer, write)
+from helper import (DIGITS, HUGE, LAST_LINE, MOST, Unchanging, add, append, ask, at, back, chance_map, chance_number,
+                    clear, count, get, holding, is_plain_map, join, map_of_right_text, near_map, plain_ask, plain_text,
+                    read, right_bytes, split_answers, text_answer, write)
+from wheremaps.maps import answers
 
 
 def expected_read(text):
@@ -176,3 +178,102 @@ class Histories(unittest.TestCase):
                 calls += [add(1, 0, chance.randrange(195, 206)) for _ in range(12)]
                 calls += [count(1), get(1, 199), get(1, 200), write(1)]
                 self.assertEqual(ask(*calls), plain_ask(*calls))
+
+
+def chance_k(chance):
+    """A map's number, now and then of a map that there isn't."""
+    return chance.randrange(4) if chance.randrange(25) else chance.choice([4, 5, HUGE])
+
+
+def chance_small(chance, most):
+    """A number below most, now and then one near a bound."""
+    if chance.randrange(12):
+        return chance.randrange(most)
+    return chance.choice([LAST_LINE - 1, LAST_LINE, LAST_LINE + 1, MOST - 1, MOST, MOST + 1, HUGE])
+
+
+def chance_segment(chance):
+    """The numbers of a segment, or of something near to one."""
+    size = chance.choice([2, 5, 5, 5, 6, 6]) if chance.randrange(20) else chance.randrange(21)
+    return [chance_small(chance, most) for most in [3, 9, 2, 3, 9, 4] + [9] * 14][:size]
+
+
+def chance_text(chance):
+    text = plain_text(near_map(chance, 9))
+    return spoiled(chance, text) if chance.randrange(6) == 0 else text
+
+
+def chance_call_of(chance, number):
+    """A call of that number."""
+    k, j = chance_k(chance), chance_k(chance)
+    if number == 0:
+        return add(k, *chance_segment(chance))
+    if number == 1:
+        return read(k, chance_text(chance))
+    if number == 4:
+        return get(k, chance_small(chance, 9))
+    if number == 5:
+        return at(k, chance_small(chance, 4), chance_small(chance, 12))
+    if number == 6:
+        return back(k, chance_small(chance, 3), chance_small(chance, 4), chance_small(chance, 10))
+    if number == 7:
+        return join(k, j, chance_small(chance, 3), chance_small(chance, 2), chance_small(chance, 3))
+    if number == 8:
+        return append(k, j, chance_small(chance, 7), chance_small(chance, 14), chance_small(chance, 2),
+                      chance_small(chance, 3))
+    return {2: write, 3: count, 9: clear}[number](k)
+
+
+class AllTenCalls(unittest.TestCase):
+    NUMBERS = [0] * 6 + [1] * 6 + [2] * 4 + [3] * 2 + [4] * 3 + [5] * 6 + [6] * 6 + [7] * 7 + [8] * 7 + [9]
+
+    def chance_calls(self, chance):
+        """A list of calls that may be handed in."""
+        calls = [chance_call_of(chance, chance.choice(self.NUMBERS)) for _ in range(chance.randrange(1, 61))]
+        while sum(len(call) for call in calls) > 6000:
+            calls.pop()
+        return calls
+
+    def test_many_lists_of_calls(self):
+        chance = random.Random(12)
+        seen = {}
+        for _ in range(2500):
+            calls = self.chance_calls(chance)
+            told = ask(*calls)
+            self.assertEqual(told, plain_ask(*calls))
+            for call, row in zip(calls, told):
+                seen[(call[0], min(row[0], 1))] = seen.get((call[0], min(row[0], 1)), 0) + 1
+        for call_and_answer in ((0, 0), (0, -1), (0, -2), (1, 0), (1, 1), (1, -1), (1, -3), (2, 0), (2, 1), (2, -1),
+                                (3, 0), (3, 1), (3, -1), (4, 0), (4, 1), (4, -1), (5, 0), (5, 1), (5, -1), (6, 0),
+                                (6, 1), (6, -1), (7, 0), (7, -1), (7, -6), (8, 0), (8, -1), (8, -2), (8, -6), (9, 0),
+                                (9, -1)):
+            self.assertGreater(seen.get(call_and_answer, 0), 20, call_and_answer)
+
+    def test_maps_that_grow_to_200_segments(self):
+        chance = random.Random(13)
+        seen = {}
+        for _ in range(150):
+            calls = [holding(k, near_map(chance, 12)) for k in range(4)]
+            for step in range(30):
+                k, j = chance.randrange(4), chance.randrange(4)
+                calls.append(append(k, j, chance.randrange(6) * step, chance.randrange(20), chance.choice([0, 1, HUGE]),
+                                    chance.choice([0, 1])))
+                if step % 4 == 0:
+                    calls.append(join(k, j, chance.randrange(3), 0, 1))
+            calls += [count(k) for k in range(4)] + [write(k) for k in range(4)]
+            told = ask(*calls)
+            self.assertEqual(told, plain_ask(*calls))
+            for call, row in zip(calls, told):
+                seen[(call[0], row[0] if call[0] == 8 else 0)] = True
+        for answer in (0, -2, -4, -6):
+            self.assertIn((8, answer), seen)
+
+    def test_what_is_handed_in_is_as_it_was_and_each_list_is_the_first(self):
+        chance = random.Random(14)
+        for _ in range(200):
+            lists = [self.chance_calls(chance) for _ in range(2)]
+            for calls in lists + lists[::-1]:
+                flat = [number for call in calls for number in call]
+                given = Unchanging(flat)
+                self.assertEqual(split_answers(answers(given)), plain_ask(*calls))
+                self.assertEqual(given, flat)

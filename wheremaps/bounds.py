@@ -22,6 +22,24 @@ def is_segment(numbers):
     return True
 
 
+def are_segments(rows):
+    """Whether each of the rows of numbers is a segment."""
+    for numbers in rows:
+        if not is_segment(numbers):
+            return False
+    return True
+
+
+def has_origin(segment):
+    """Whether it is known where the segment came from."""
+    return len(segment) >= 5
+
+
+def has_name(segment):
+    """Whether the segment's origin has a name."""
+    return len(segment) == 6
+
+
 def is_behind(segment, segments):
     """Whether the segment may stand behind the last of the segments, if there is one."""
     if len(segments) == 0:
@@ -30,3 +48,11 @@ def is_behind(segment, segments):
     if segment[0] == last[0]:
         return segment[1] > last[1]
     return segment[0] > last[0]
+
+
+def are_behind(others, segments):
+    """Whether each of the others may stand behind the last of the segments, if there is one."""
+    for segment in others:
+        if not is_behind(segment, segments):
+            return False
+    return True
